@@ -1,0 +1,1 @@
+"""A log of boats on the water."""
