@@ -8,9 +8,15 @@ TEXT = 2
 SIZES = 3
 NAME = 4
 BOAT = 5
+TACK = 6
+NEXT = 7
+ROUND = 8
+PAIR = 9
+ZONE = 10
+OVER = 11
 
 # By a call's number, for those without a row: how many numbers stand behind it.
-ARGUMENTS = {2: 0, 3: 0, 4: 1, 5: 2, 6: 2}
+ARGUMENTS = {2: 0, 3: 0, 4: 1, 5: 2, 6: 2, 7: 2, 8: 3, 9: 3, 10: 5, 11: 6, 12: 3}
 
 
 def answers(calls):
@@ -53,4 +59,21 @@ def answer_one(book, call, given):
         return book.name(given[0])
     if call == BOAT:
         return book.boat(given[0], given[1])
-    return book.tack(given[0], given[1])
+    if call == TACK:
+        return book.tack(given[0], given[1])
+    return answer_sailing(book, call, given)
+
+
+def answer_sailing(book, call, given):
+    """The calls that compare moments, boats and places."""
+    if call == NEXT:
+        return book.next_change(given[0], given[1])
+    if call == ROUND:
+        return book.rounds_made(given[0], given[1], given[2])
+    if call == PAIR:
+        return book.pair(given[0], given[1], given[2])
+    if call == ZONE:
+        return book.zone(given[0], given[1], (given[2], given[3]), given[4])
+    if call == OVER:
+        return book.over(given[0], given[1], (given[2], given[3]), (given[4], given[5]))
+    return book.touch(given[0], given[1], given[2])

@@ -1,7 +1,8 @@
 """A log: its boats, winds and moments, and how lines are judged and added."""
 
+from boatlog.hulls import heading
 from boatlog.lines import BOAT, LINE_FEED, WIND, cut, read_line
-from boatlog.vectors import STARBOARD, heading, tack_after, turned_by_half
+from boatlog.turns import GYBES, STARBOARD, TACKS, points_into, tack_after, turned_by_half
 
 NO_FAULT = 0
 NOT_FORMED = 1
@@ -21,6 +22,17 @@ class Moment:
         self.hulls = hulls
         self.wind = wind
         self.tacks = tacks
+
+    def heads_into_wind(self, i):
+        return points_into(heading(self.hulls[i]), self.wind)
+
+    def change_since(self, before, i):
+        """TACKS or GYBES if boat i's tack is another than at the moment before, else None."""
+        if self.tacks[i] == before.tacks[i]:
+            return None
+        if before.heads_into_wind(i) or self.heads_into_wind(i):
+            return TACKS
+        return GYBES
 
 
 class Log:

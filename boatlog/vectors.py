@@ -1,7 +1,12 @@
-"""Vectors as pairs of whole numbers, and what a hull and the wind make of them."""
+"""Places and vectors, both as pairs of whole numbers."""
 
-STARBOARD = 1
-PORT = 2
+
+def minus(one, other):
+    return (one[0] - other[0], one[1] - other[1])
+
+
+def plus(one, other):
+    return (one[0] + other[0], one[1] + other[1])
 
 
 def cross(one, other):
@@ -12,19 +17,6 @@ def dot(one, other):
     return one[0] * other[0] + one[1] * other[1]
 
 
-def heading(hull):
-    """A hull is its bow's x, y and its stern's x, y."""
-    return (hull[0] - hull[2], hull[1] - hull[3])
-
-
-def turned_by_half(before, after):
-    return cross(before, after) == 0 and dot(before, after) < 0
-
-
-def tack_after(before, course, wind):
-    side = cross(course, wind)
-    if side > 0:
-        return STARBOARD
-    if side < 0:
-        return PORT
-    return before
+def square(vector):
+    """The square of its length."""
+    return dot(vector, vector)

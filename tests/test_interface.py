@@ -7,12 +7,18 @@ import unittest
 from unittest import mock
 
 from boatlog.desk import answers
-from tests.helper import FLEET, MOST, boat, more, name, signs, sizes, tack, take, text
+from tests.helper import FAR, FLEET, HIGHEST, LOWEST, MOST, boat, more, name, next_change, over, pair, rounds, signs
+from tests.helper import sizes, tack, take, text, touch, zone
 
 # A call of each kind, answered and refused.
 ALL = (
     text() + sizes() + name(0) + boat(0, 0) + tack(0, 0) + take(FLEET) + text() + sizes() + name(1) + boat(1, 2)
-    + tack(0, 1) + more("wind 4 4\n") + more("x") + take("boat a\nboat a\n") + tack(MOST, MOST) + take("") + sizes()
+    + tack(0, 1) + more("wind 4 4\n") + more("x") + take("boat a\nboat a\n") + tack(MOST, MOST)
+    + next_change(0, 0) + next_change(1, 2) + next_change(2, 0) + rounds(1, 0, 2) + rounds(0, 2, 1) + rounds(0, 0, 3)
+    + pair(0, 1, 0) + pair(1, 1, 0) + pair(0, 2, 0) + zone(0, 0, -2, -1, 3) + zone(0, 0, -9, 9, 1)
+    + zone(0, 0, LOWEST, HIGHEST, MOST) + zone(2, 0, -FAR, FAR, 64) + over(1, 1, 0, 9, 0, -9) + over(1, 0, -5, 6, -3, 6)
+    + over(0, 0, -1, -1, -1, -1) + over(0, 3, 0, 0, 1, 1) + touch(0, 1, 0) + touch(0, 0, 0) + touch(0, MOST, 0)
+    + take("") + sizes()
 )
 
 
@@ -33,6 +39,29 @@ class HandedInAndGivenBack(unittest.TestCase):
         told = [1, 0] + [1 + len(log), len(log)] + log + [4, 0, 1, 1, 1] + [2, 1, 97] + [7, 0, 1, 0, 4, 5, 2, 3]
         told += [1, 1] + [1, -4] + [1, -4] + [1, -4] + [3, -6, 3, 1] + [1, 0]
         self.assertEqual(answers(calls), told)
+
+    def test_one_flat_list_of_the_other_calls(self):
+        log = signs("boat a\nboat b\nwind 0 -1\nat 1 -1 0 -2 9 3 9 2\nat -1 1 0 0 9 4 9 3\nat -2 2 -1 1 0 0 -3 3\n")
+        calls = [0, len(log)] + log
+        calls += [7, 0, 0, 7, 0, 1, 7, 2, 0, 8, 0, 0, 2, 8, 1, 0, 2, 8, 0, 2, 1, 8, 0, 2, 3]
+        calls += [9, 0, 1, 0, 9, 1, 0, 2, 9, 1, 1, 0, 9, 0, 2, 0]
+        calls += [10, 0, 0, 1, -1, 0, 10, 0, 0, -1, 1, 1, 10, 0, 0, 0, 0, 65, 10, 2, 0, 0, 0, 64]
+        calls += [11, 0, 0, -3, 0, 3, 0, 11, 0, 1, -3, 0, 3, 0, 11, 0, 0, 3, -3, 3, -3, 11, 0, 3, -3, 0, 3, 0]
+        calls += [12, 0, 1, 0, 12, 1, 0, 3, 12, 0, 0, 0, 12, 2, 3, 0, 3]
+        told = [1, 0]
+        told += [3, 0, 1, 1] + [1, -3] + [1, -4] + [2, 0, 0] + [2, 0, -1] + [1, -8] + [1, -4]
+        told += [4, 0, 1, 2, 0] + [4, 0, 0, 0, 1] + [1, -8] + [1, -4]
+        told += [1, 1] + [1, 0] + [1, -8] + [1, -4]
+        told += [4, 0, 0, 1, 2] + [1, -3] + [1, -8] + [1, -4]
+        told += [2, 0, 2] + [1, -4] + [1, -8] + [1, -4] + [4, 0, 2, 3, 1]
+        self.assertEqual(answers(calls), told)
+
+    def test_the_examples_of_the_readme(self):
+        log, line = signs("boat ann\nwind 0 -1\nat 1 1 0 0\n"), signs("at -1 2 0 1\n")
+        self.assertEqual(answers([0, len(log)] + log + [3, 6, 0, 0]), [1, 0, 4, 0, 1, 1, 1, 1, 2])
+        asked = [7, 0, 0] + [8, 0, 0, 1] + [10, 0, 1, 0, 0, 1] + [11, 0, 0, 0, -5, 0, 5]
+        told = [1, 0, 1, 0, 3, 0, 1, 1, 2, 0, 0, 1, 1, 4, 0, 0, 1, 2]
+        self.assertEqual(answers([0, len(log)] + log + [1, len(line)] + line + asked), told)
 
     def test_texts_that_look_like_calls(self):
         self.assertEqual(answers([0, 3, 0, 1, 2, 3]), [3, -6, 0, 1, 4, 0, 0, 0, 0])
@@ -60,6 +89,8 @@ class HandedInAndGivenBack(unittest.TestCase):
         self.assertEqual(answers(take(log) + tack(0, 2700)), [1, 0, 1, 1])
         self.assertEqual(answers(take("\n" * 29990)), [3, -6, 0, 1])
         self.assertEqual(answers(take(" " * 29990)), [3, -6, 0, 1])
+        asked = next_change(0, 0) + rounds(0, 0, 2700) + over(0, 0, 0, 0, 1, 0) + zone(0, 2700, 0, 1, 0)
+        self.assertEqual(answers(take(log) + asked), [1, 0, 1, -3, 2, 0, 0, 4, 0, 0, 0, 1, 1, 1])
         self.assertEqual(answers(take("at" + " 0" * 14000 + "\n")), [3, -6, 0, 1])
 
     def test_kinds(self):

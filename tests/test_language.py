@@ -22,6 +22,11 @@ UNUSED = set("register mro elements open input version_info with_traceback add_n
 WRONG = (ast.With, ast.Match, ast.Delete, ast.Global, ast.Nonlocal, ast.Assert, ast.Yield, ast.YieldFrom, ast.Await,
          ast.AsyncFunctionDef, ast.AsyncFor, ast.AsyncWith, ast.SetComp, ast.DictComp, ast.GeneratorExp,
          ast.NamedExpr, ast.Starred, ast.Import, ast.AnnAssign, ast.Div, ast.Set)
+NOT_NAMES = set("""attrgetter breakpoint builtins compile copyright credits delattr dir eval exec exit gc getattr
+    globals hasattr help id importlib license locals methodcaller os quit setattr super type vars sys __name__""".split())
+WALKED = set("zip enumerate reversed range".split())
+WALKERS = set("list tuple dict sorted sum any all enumerate zip min max".split())
+CHANGES = set("append clear extend insert pop remove reverse setdefault update".split())
 PLAIN = (ast.Constant, ast.List, ast.Tuple, ast.Dict, ast.UnaryOp, ast.USub, ast.Load)
 
 
@@ -65,6 +70,30 @@ class Language(unittest.TestCase):
             bound |= {part.targets[0].id for part in tree.body if isinstance(part, ast.Assign)}
             self.assertLessEqual({alias.name for alias in node.names}, bound, f"L16 {name}:{node.lineno}")
 
+    def test_no_two_files_draw_from_one_another(self):
+        drawn = {path.stem: set() for path in files()}
+        for name, node in nodes(ast.ImportFrom):
+            drawn[name[:-3]].add(node.module.split(".")[1])
+        while drawn:
+            free = [name for name in drawn if not drawn[name] & set(drawn)]
+            self.assertTrue(free, f"L16 {sorted(drawn)}")
+            for name in free:
+                drawn.pop(name)
+
+    def test_walked_at_once(self):
+        """What's made to be walked is walked on the spot, and what a loop walks is not changed in it."""
+        for name, tree in trees():
+            calls = [node for node in ast.walk(tree) if isinstance(node, ast.Call)]
+            named = [node for node in calls if isinstance(node.func, ast.Name)]
+            walked = [node.iter for node in ast.walk(tree) if isinstance(node, (ast.For, ast.comprehension))]
+            walked += [node.args[0] for node in named if node.func.id in WALKERS and node.args]
+            kept = [node.lineno for node in named if node.func.id in WALKED and node not in walked]
+            self.assertEqual(kept, [], f"L23 {name}")
+            for loop in [node for node in ast.walk(tree) if isinstance(node, ast.For)]:
+                changed = {ast.unparse(node.func.value) for node in ast.walk(loop) if isinstance(node, ast.Call)
+                           and isinstance(node.func, ast.Attribute) and node.func.attr in CHANGES}
+                self.assertNotIn(ast.unparse(loop.iter), changed, f"L23 {name}:{loop.lineno}")
+
     def test_tops(self):
         for name, tree in trees():
             bound = []
@@ -106,6 +135,7 @@ class Language(unittest.TestCase):
         self.all_hold("L12", nodes(ast.Name), lambda node: not node.id.startswith("_"))
         self.all_hold("L8", nodes(ast.Name), lambda node: node.id in BUILTINS or not hasattr(builtins, node.id))
         self.all_hold("L17", nodes(ast.Attribute), lambda node: node.attr not in UNUSED)
+        self.all_hold("L17", nodes(ast.Name), lambda node: node.id not in UNUSED | NOT_NAMES)
         self.all_hold("L8", nodes(ast.Attribute), lambda node: not node.attr.startswith("_"))
         methods = {node.name for name, part in nodes(ast.ClassDef) for node in part.body
                    if isinstance(node, ast.FunctionDef)}
